@@ -1,0 +1,1 @@
+"""Chipbus: chips behind addresses that are taken apart by bits."""
