@@ -4,19 +4,14 @@ A row is a tuple (mask, want, inner, chip, latch), a latch None or (chip, mask, 
 """
 
 from chipbus.bits import gathered, ones_of, parts_of, spread
+from chipbus.words import LAST_WORD, is_number
 
 LAST_CHIP = 99
-LAST_WORD = 255
 
 
 def size_of(bits):
     """How many addresses a board of so many bits has."""
     return 1 << max(bits, 0)
-
-
-def is_number(thing, last):
-    """Whether thing, which may be anything, is a whole number from 0 to last."""
-    return isinstance(thing, int) and not isinstance(thing, bool) and 0 <= thing <= last
 
 
 def is_choice(mask, want, last):

@@ -1,6 +1,9 @@
-"""Rows and maps made for the tests, alike in every run."""
+"""Rows, maps and chips made for the tests, alike in every run."""
 
 import random
+
+import plain
+from chipbus.chips import Fixed, Latch, Meter, Pipe, Store
 
 
 def part_of(chance, mask):
@@ -49,3 +52,57 @@ def split_map(seed, bits, many):
         single = chance.choice(free)
         rows += [(mask | single, want), (mask | single, want | single)]
     return tuple((mask, want, every & ~mask, number % 100, None) for number, (mask, want) in enumerate(rows))
+
+
+def some_chip(chance):
+    """What a chip is made of: a tuple (kind, words, room) with room None but for a pipe."""
+    kind = chance.choice(("store", "fixed", "latch", "latch", "meter", "pipe"))
+    if kind == "pipe":
+        return (kind, (), chance.randint(1, 4))
+    word = chance.choice((0, 1, 2, 3, 254, 255))
+    if kind == "store":
+        return (kind, (word,) * chance.randint(1, 9), None)
+    if kind == "fixed":
+        return (kind, tuple(chance.randrange(256) for cell in range(chance.randint(1, 9))), None)
+    return (kind, (word,), None)
+
+
+def built(told):
+    """The program's chip of what some_chip tells."""
+    kind, words, room = told
+    if kind == "store":
+        return Store(len(words), words[0])
+    if kind == "fixed":
+        return Fixed(list(words))
+    if kind == "pipe":
+        return Pipe(room)
+    return {"latch": Latch, "meter": Meter}[kind](words[0])
+
+
+def cells_of(told):
+    return 2 if told[0] == "pipe" else len(told[1])
+
+
+def some_fitting_row(chance, bits, chips):
+    """A row for these chips, as some_chip tells them, with an inner that has cells enough."""
+    number = chance.randrange(len(chips))
+    mask = chance.getrandbits(bits)
+    inner = part_of(chance, (2 ** bits - 1) & ~mask)
+    while 2 ** bin(inner).count("1") > cells_of(chips[number]):
+        inner &= inner - 1
+    latches = [place for place, told in enumerate(chips) if told[0] == "latch"]
+    latch = None
+    if latches and chance.randrange(3):
+        over = chance.getrandbits(2)
+        latch = (chance.choice(latches), over, part_of(chance, over))
+    return (mask, part_of(chance, mask), inner, number, latch)
+
+
+def some_fitting_map(chance, bits, chips, most_rows):
+    """A map without clash for these chips."""
+    rows = ()
+    for count in range(6 * most_rows):
+        more = rows + (some_fitting_row(chance, bits, chips),)
+        if len(more) <= most_rows and plain.clash_of(bits, more) is None:
+            rows = more
+    return rows

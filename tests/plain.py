@@ -1,6 +1,7 @@
-"""Plain goings through of addresses, pairs of rows and words, to hold the program's answers against.
+"""Plain goings through of addresses, pairs of rows and words, and plain chips and boards.
 
-Nothing here uses the program: each bit, address and word is tried one by one.
+The program's answers are held against them. Nothing here uses the program: each bit, address
+and word is tried one by one.
 """
 
 import functools
@@ -47,10 +48,11 @@ def least_words(one, other):
     told = []
     for chip in sorted({latch[0] for latch in latches}):
         asked = [latch for latch in latches if latch[0] == chip]
-        letting = [word for word in range(256) if all(fits(word, latch[1], latch[2]) for latch in asked)]
-        if not letting:
+        letting = (word for word in range(256) if all(fits(word, latch[1], latch[2]) for latch in asked))
+        least = next(letting, None)
+        if least is None:
             return None
-        told.append((chip, letting[0]))
+        told.append((chip, least))
     return tuple(told)
 
 
@@ -71,3 +73,83 @@ def all_answering(rows, address, words):
 
 def holes(bits, rows, words):
     return [address for address in range(2 ** bits) if not all_answering(rows, address, words)]
+
+
+class Chip:
+    """A chip by the words of the document, told as (kind, words, room); room is a pipe's alone."""
+
+    def __init__(self, kind, words, room=None):
+        self.kind = kind
+        self.words = tuple(words)
+        self.room = room
+
+    def cells(self):
+        return 2 if self.kind == "pipe" else len(self.words)
+
+    def look(self, cell):
+        if self.kind != "pipe":
+            return self.words[cell]
+        if cell == 1:
+            return len(self.words)
+        return (self.words + (0,))[0]
+
+    def read(self, cell):
+        word = self.look(cell)
+        if self.kind == "meter":
+            self.words = (0 if word == 255 else word + 1,)
+        elif self.kind == "pipe" and cell == 0:
+            self.words = self.words[1:]
+        return word
+
+    def write(self, cell, word):
+        if self.kind == "pipe":
+            self.words = () if cell == 1 else (self.words + (word,))[:self.room]
+        elif self.kind != "fixed":
+            self.words = self.words[:cell] + (word,) + self.words[cell + 1:]
+
+    def text(self):
+        told = [self.kind] + ([] if self.room is None else ["%02x" % self.room])
+        return " ".join(told + ["%02x" % word for word in self.words])
+
+
+class Board:
+    """A board that goes through its rows one by one, and keeps every deed that was done on it."""
+
+    def __init__(self, bits, rows, chips, floating):
+        self.bits, self.rows, self.chips, self.floating = bits, rows, chips, floating
+        self.deeds = []
+        self.watches = []
+
+    def who(self, address):
+        words = {number: chip.words[0] for number, chip in enumerate(self.chips) if chip.kind == "latch"}
+        for number in all_answering(self.rows, address, words):
+            return (number, gathered(self.rows[number][2], address))
+        return None
+
+    def look(self, address):
+        found = self.who(address)
+        return self.floating if found is None else self.chips[self.rows[found[0]][3]].look(found[1])
+
+    def read(self, address):
+        found = self.who(address)
+        if found is not None:
+            self.floating = self.chips[self.rows[found[0]][3]].read(found[1])
+        self.deeds.append(("read", address, self.floating))
+        return self.floating
+
+    def write(self, address, word):
+        found = self.who(address)
+        if found is not None:
+            self.chips[self.rows[found[0]][3]].write(found[1], word)
+        self.floating = word
+        self.deeds.append(("write", address, word))
+
+    def watch(self, mask, want, kind):
+        self.watches.append([mask, want, kind, len(self.deeds)])
+        return len(self.watches) - 1
+
+    def news(self, number):
+        mask, want, kind, since = self.watches[number]
+        self.watches[number][3] = len(self.deeds)
+        return [deed for deed in self.deeds[since:]
+                if kind in ("both", deed[0]) and not want & ~mask and fits(deed[1], mask, want)]

@@ -51,6 +51,16 @@ def bound_names(tree):
     return names
 
 
+def class_spots(node):
+    """The parts of a node in which a class may stand: what is called, bases, isinstance's second, except."""
+    if isinstance(node, ast.Call):
+        asks = isinstance(node.func, ast.Name) and node.func.id == "isinstance"
+        return [node.func] + (node.args[1:] if asks else [])
+    if isinstance(node, ast.ClassDef):
+        return node.bases
+    return [node.type] if isinstance(node, ast.ExceptHandler) else []
+
+
 class TestForm(unittest.TestCase):
     def test_l1_the_folder_holds_plain_files_alone(self):
         for path in PACKAGE.iterdir():
@@ -117,6 +127,27 @@ class TestForm(unittest.TestCase):
         for path, text in sources():
             self.assertRegex(text, r"\A[\n -~]*\Z", path.name)
 
+    def test_l15_no_local_name_is_a_class_or_an_import(self):
+        for path, text in sources():
+            tree = ast.parse(text)
+            taken = {node.name for node in tree.body if isinstance(node, ast.ClassDef)}
+            taken |= {alias.asname or alias.name for node in ast.walk(tree) if isinstance(node, ast.ImportFrom)
+                      for alias in node.names}
+            for node in ast.walk(tree):
+                if isinstance(node, ast.arg):
+                    self.assertNotIn(node.arg, taken, path.name)
+                elif isinstance(node, ast.Name) and isinstance(node.ctx, ast.Store):
+                    self.assertNotIn(node.id, taken, path.name)
+
+    def test_l16_no_two_files_import_from_each_other(self):
+        wanted = {path.stem: {node.module.split(".")[1] for node in ast.walk(ast.parse(text))
+                              if isinstance(node, ast.ImportFrom)} for path, text in sources()}
+        while wanted:
+            ready = [stem for stem, others in wanted.items() if not others & set(wanted)]
+            self.assertNotEqual(ready, [], sorted(wanted))
+            for stem in ready:
+                del wanted[stem]
+
     def test_l17_barred_words(self):
         for path, text in sources():
             self.assertIsNone(BARRED_WORDS.search(text), path.name)
@@ -128,6 +159,15 @@ class TestForm(unittest.TestCase):
         self.assertEqual(methods & attributes, set())
         for where, node in nodes(ast.Attribute):
             self.assertIn(node.attr, methods | attributes | METHODS, where)
+
+    def test_l18_classes_are_not_passed_on(self):
+        classes = {node.name for where, node in nodes(ast.ClassDef)}
+        for path, text in sources():
+            tree = ast.parse(text)
+            allowed = {id(part) for node in ast.walk(tree) for spot in class_spots(node) for part in ast.walk(spot)}
+            for node in ast.walk(tree):
+                if isinstance(node, ast.Name) and node.id in classes:
+                    self.assertIn(id(node), allowed, f"{path.name}:{node.lineno}")
 
     def test_l20_is(self):
         for where, node in nodes(ast.Compare):
@@ -149,6 +189,17 @@ class TestForm(unittest.TestCase):
             with warnings.catch_warnings():
                 warnings.simplefilter("error")
                 compile(text, str(path), "exec")
+
+    def test_l28_double_underscore_methods(self):
+        for where, node in nodes(ast.FunctionDef):
+            if node.name == "__init__":
+                self.assertFalse([part for part in ast.walk(node) if isinstance(part, ast.Return)], where)
+            elif node.name in DUNDERS:
+                self.assertIsInstance(node.body[-1], ast.Return, where)
+                for part in ast.walk(node):
+                    self.assertNotIsInstance(part, (ast.Assign, ast.AugAssign, ast.Delete), where)
+                    if isinstance(part, ast.Return) and node.name == "__len__":
+                        self.assertRegex(ast.unparse(part.value), r"^(len\(.*\)|\d+)$", where)
 
 
 if __name__ == "__main__":
