@@ -72,8 +72,7 @@ class Board:
 
     def who(self, address):
         """The row and the cell that answer at the address now, a tuple, or None."""
-        if not self.in_bits(address):
-            raise NoAddress(address)
+        self.check_address(address)
         words = {chip: self.chips[chip].look(0) for chip in self.latches}
         number = answering(self.rows, address, words)
         if number is None:
@@ -110,6 +109,11 @@ class Board:
     def in_bits(self, number):
         """Whether the number is one below 2 to the board's bits, as addresses, masks and wants are."""
         return is_number(number, size_of(self.bits) - 1)
+
+    def check_address(self, address):
+        """Refuse a number that is no address of the board."""
+        if not self.in_bits(address):
+            raise NoAddress(address)
 
     def chip_of(self, number):
         """The chip of the row of this number."""

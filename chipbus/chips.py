@@ -1,7 +1,8 @@
 """Chips: stores, fixed ones, latches, meters and pipes, read and written cell by cell."""
 
 from chipbus.errors import NoCell, NoChip
-from chipbus.words import LAST_WORD, check_word, is_number, is_word, two_figures
+from chipbus.figures import two_figures
+from chipbus.words import LAST_WORD, check_word, is_number, is_word
 
 MOST_CELLS = 4096
 MOST_ROOM = 255

@@ -1,9 +1,8 @@
-"""Whole numbers from 0 on, and words: what is one, and how a word is written."""
+"""Whole numbers from 0 on, and words: what is one."""
 
 from chipbus.errors import NoWord
 
 LAST_WORD = 255
-FIGURES = "0123456789abcdef"
 
 
 def is_number(thing, last):
@@ -20,8 +19,3 @@ def check_word(word):
     """Refuse a number that is no word."""
     if not is_word(word):
         raise NoWord(word)
-
-
-def two_figures(word):
-    """The word by two figures of the base sixteen."""
-    return FIGURES[word // 16] + FIGURES[word % 16]

@@ -153,3 +153,26 @@ class Board:
         self.watches[number][3] = len(self.deeds)
         return [deed for deed in self.deeds[since:]
                 if kind in ("both", deed[0]) and not want & ~mask and fits(deed[1], mask, want)]
+
+
+class Mover:
+    """A mover that adds and takes away the board's size until it is back among the addresses."""
+
+    def __init__(self, board, source, target, many, step, by):
+        self.board, self.source, self.target, self.many, self.step, self.by = board, source, target, many, step, by
+
+    def round(self, address):
+        while address < 0:
+            address += 2 ** self.board.bits
+        while address >= 2 ** self.board.bits:
+            address -= 2 ** self.board.bits
+        return address
+
+    def turn(self):
+        if self.many == 0:
+            return None
+        told = (self.source, self.target, self.board.read(self.source))
+        self.board.write(self.target, told[2])
+        self.source, self.target = self.round(self.source + self.step), self.round(self.target + self.by)
+        self.many -= 1
+        return told

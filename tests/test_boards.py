@@ -1,53 +1,17 @@
 """Points [12] to [14]: boards and their watches; and what [2] and [3] say of them."""
 
-import inspect
 import unittest
 
+from cases import ROWS, Case, some_board, some_chips, states
 from chipbus.boards import Board
 from chipbus.chips import Fixed, Latch, Meter, Pipe, Store
-from chipbus.errors import BusError, Clash, NoAddress, NoMap, NoWatch, NoWord
+from chipbus.errors import Clash, NoAddress, NoMap, NoWatch, NoWord
 
 NO_WORDS = (-1, 256, 1000, -256, 2 ** 64 - 1, 1 - 2 ** 64)
 NO_ADDRESSES = (-1, 16, 17, -16, 2 ** 64 - 1, 1 - 2 ** 64)
 
-# A store at 0 to 3, by a latch another at 4 to 7, the latch itself at 8, a meter at 9, a pipe at 10 and 11,
-# a fixed one at 12 and 13; 14 and 15 float.
-ROWS = (
-    (0b1100, 0b0000, 0b0011, 0, None),
-    (0b1100, 0b0100, 0b0011, 1, (2, 0x01, 0x01)),
-    (0b1111, 0b1000, 0b0000, 2, None),
-    (0b1111, 0b1001, 0b0000, 3, None),
-    (0b1110, 0b1010, 0b0001, 4, None),
-    (0b1110, 0b1100, 0b0001, 5, None),
-)
 
-
-def some_chips():
-    return [Store(4, 0x10), Store(4, 0x20), Latch(), Meter(7), Pipe(3), Fixed([0x51, 0x52])]
-
-
-def some_board():
-    return Board(4, ROWS, some_chips())
-
-
-def states(board):
-    return [chip.state() for chip in board.chips_of()]
-
-
-class BoardCase(unittest.TestCase):
-    def refused(self, error, deed, *handed):
-        with self.assertRaises(BusError) as caught:
-            deed(*handed)
-        self.assertIs(type(caught.exception), error)
-        return caught.exception
-
-
-class TestInterface(BoardCase):
-    def check_parameters(self, thing, *told):
-        asked = inspect.signature(thing).parameters.values()
-        self.assertEqual([each.name if each.default is each.empty else (each.name, each.default) for each in asked],
-                         list(told))
-
+class TestInterface(Case):
     def test_parameters(self):
         board = some_board()
         self.check_parameters(Board, "bits", "rows", "chips", ("floating", 0))
@@ -71,7 +35,7 @@ class TestInterface(BoardCase):
         self.assertIsNone(board.unwatch(number=number))
 
 
-class TestMaking(BoardCase):
+class TestMaking(Case):
     def test_what_it_tells_of_itself(self):
         chips = some_chips()
         board = Board(4, ROWS, chips, 77)
@@ -218,7 +182,7 @@ class TestMaking(BoardCase):
         self.assertEqual(states(board), [(0,), (5,)])
 
 
-class TestReading(BoardCase):
+class TestReading(Case):
     def test_who(self):
         board = some_board()
         told = [(0, 0), (0, 1), (0, 2), (0, 3), None, None, None, None, (2, 0), (3, 0), (4, 0), (4, 1), (5, 0), (5, 1),
@@ -276,7 +240,7 @@ class TestReading(BoardCase):
         self.assertEqual(states(board), [(14, 15, 4)])
 
 
-class TestWriting(BoardCase):
+class TestWriting(Case):
     def test_writes_into_the_row_s_cell(self):
         board = some_board()
         self.assertIsNone(board.write(2, 0x77))
@@ -305,7 +269,7 @@ class TestWriting(BoardCase):
         self.assertEqual([board.floats(), board.read(11), board.read(10)], [99, 0, 0])
 
 
-class TestQuietReading(BoardCase):
+class TestQuietReading(Case):
     def test_tells_what_reading_would_and_changes_nothing(self):
         board = some_board()
         board.watch(0, 0)
@@ -337,7 +301,7 @@ class TestQuietReading(BoardCase):
         self.assertEqual([board.read(10, True), board.read(10, True), board.read(10), board.read(10)], [5, 5, 5, 0])
 
 
-class TestLatches(BoardCase):
+class TestLatches(Case):
     def test_a_write_to_the_latch_switches_which_row_answers(self):
         rows = ((8, 0, 7, 0, (2, 1, 0)), (8, 0, 7, 1, (2, 1, 1)), (15, 15, 0, 2, None))
         board = Board(4, rows, [Store(8, 1), Store(8, 2), Latch()])
@@ -389,7 +353,7 @@ class TestLatches(BoardCase):
         self.assertEqual(board.who(0), (0, 0))
 
 
-class TestRefusedDeeds(BoardCase):
+class TestRefusedDeeds(Case):
     def unchanged(self, board, error, deed, *handed):
         before = (states(board), board.floats())
         told = self.refused(error, deed, *handed)
@@ -431,7 +395,7 @@ class TestRefusedDeeds(BoardCase):
         self.assertEqual(self.board.read(0), 255)
 
 
-class TestSharedChips(BoardCase):
+class TestSharedChips(Case):
     def test_what_one_writes_the_other_reads(self):
         store, meter, latch = Store(4), Meter(), Latch()
         one = Board(4, ((12, 0, 3, 0, None), (15, 15, 0, 1, None), (15, 14, 0, 2, None)), [store, meter, latch])
@@ -474,7 +438,7 @@ class TestSharedChips(BoardCase):
             self.assertIs(mine, yours)
 
 
-class TestWatches(BoardCase):
+class TestWatches(Case):
     def test_numbers(self):
         board = some_board()
         self.assertEqual([board.watch(0, 0), board.watch(15, 3, "read"), board.watch(0, 0)], [0, 1, 2])
